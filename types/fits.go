@@ -66,7 +66,7 @@ func regsTyped(p *api.Program, fn *api.Func, i api.Instr) bool {
 	return true
 }
 
-// instrFits tells whether i, whose registers have types, has the right ones.
+// instrFits tells whether i, whose names are right and whose registers have types, has the right ones.
 func instrFits(p *api.Program, fn *api.Func, i api.Instr) bool {
 	dst, a, b := regType(fn, i.Dst), regType(fn, i.A), regType(fn, i.B)
 	switch i.Op {

@@ -81,16 +81,15 @@ func TestFitsOfCalls(t *testing.T) {
 	for _, x := range []struct {
 		name string
 		good api.Instr
-		a    bool // whether A counts
 	}{
-		{"a call", api.Instr{Op: api.OCall, Dst: rP0, N: 1, Args: []int{rNum, rP1}}, false},
-		{"a call without Args", api.Instr{Op: api.OCall, Dst: rNum, N: 4}, false},
-		{"a call with a pointer", api.Instr{Op: api.OCall, Dst: rNum, N: 0, Args: []int{rP0}}, false},
-		{"a call of what gives an interface", api.Instr{Op: api.OCall, Dst: rI1, N: 2, Args: []int{rP1, rNum}}, false},
-		{"a call by a register", api.Instr{Op: api.OCallR, Dst: rNum, A: rF1, Args: []int{rP0}}, true},
-		{"a call of two Args by a register", api.Instr{Op: api.OCallR, Dst: rP0, A: rF2, Args: []int{rNum, rP1}}, true},
-		{"a call of a method", api.Instr{Op: api.OCallI, Dst: rNum, A: rI0}, true},
-		{"a call of the second method", api.Instr{Op: api.OCallI, Dst: rI1, A: rI1, N: 1, Args: []int{rNum}}, true},
+		{"a call", api.Instr{Op: api.OCall, Dst: rP0, N: 1, Args: []int{rNum, rP1}}},
+		{"a call without Args", api.Instr{Op: api.OCall, Dst: rNum, N: 4}},
+		{"a call with a pointer", api.Instr{Op: api.OCall, Dst: rNum, N: 0, Args: []int{rP0}}},
+		{"a call of what gives an interface", api.Instr{Op: api.OCall, Dst: rI1, N: 2, Args: []int{rP1, rNum}}},
+		{"a call by a register", api.Instr{Op: api.OCallR, Dst: rNum, A: rF1, Args: []int{rP0}}},
+		{"a call of two Args by a register", api.Instr{Op: api.OCallR, Dst: rP0, A: rF2, Args: []int{rNum, rP1}}},
+		{"a call of a method", api.Instr{Op: api.OCallI, Dst: rNum, A: rI0}},
+		{"a call of the second method", api.Instr{Op: api.OCallI, Dst: rI1, A: rI1, N: 1, Args: []int{rNum}}},
 	} {
 		if !types.Fits(great(), main, x.good) {
 			t.Errorf("P10.2: %s does not fit", x.name)
@@ -106,7 +105,7 @@ func TestFitsOfCalls(t *testing.T) {
 				refuse(i)
 			}
 			i = x.good
-			if i.A = r; x.a && r != x.good.A && !(x.name == "a call of a method" && r == rI1) {
+			if i.A = r; r != x.good.A && !(x.name == "a call of a method" && r == rI1) {
 				refuse(i)
 			}
 			for k := range x.good.Args {
@@ -219,23 +218,57 @@ func TestFitsOfNoSignature(t *testing.T) {
 	}
 }
 
-// What does not count is not asked: it names nothing.
-func TestFitsAsksWhatCounts(t *testing.T) {
+// What does not count is 0 and Args is empty: else a name is none, even if there is a register of that number.
+func TestFitsOfWhatDoesNotCount(t *testing.T) {
+	met := make(map[int]struct{})
 	for _, block := range blocks() {
 		for _, was := range block.Code {
-			for _, n := range noNames(10) {
-				i := was
-				for letter, place := range places(&i) {
-					if !strings.ContainsRune(counted()[i.Op], letter) {
-						*place = n
+			met[was.Op] = struct{}{}
+			for _, n := range append(noNames(10), 1, 2, 9) {
+				for letter := range places(&was) {
+					i := was
+					if *places(&i)[letter] = n; !strings.ContainsRune(counted()[i.Op], letter) {
+						fitsNot(t, i)
 					}
 				}
-				if !strings.ContainsRune(counted()[i.Op], '*') {
-					i.Args = []int{n}
-				}
-				if !types.Fits(great(), main, i) {
-					t.Errorf("P10.2: %+v does not fit", i)
-				}
+			}
+			if strings.Contains(counted()[was.Op], "*") {
+				continue
+			}
+			for _, l := range [][]int{{0}, {1}, {-1}, {10}, {1, 4, 0}, make([]int, 1<<16)} {
+				i := was
+				i.Args = l
+				fitsNot(t, i)
+			}
+			was.Args = []int{}
+			if !types.Fits(great(), main, was) {
+				t.Errorf("P0.4: %+v with an empty list of Args does not fit", was)
+			}
+		}
+	}
+	if len(met) != len(counted()) {
+		t.Errorf("P10.2: %d of %d Ops are asked", len(met), len(counted()))
+	}
+	fitsNot(t, api.Instr{Op: api.OSource, N: 1, Args: []int{1, 4, 0}})
+	fitsNot(t, api.Instr{Op: api.OSource, N: 1})
+}
+
+// fitsNot holds that i, in great's main, does not fit.
+func fitsNot(t *testing.T, i api.Instr) {
+	t.Helper()
+	if types.Fits(great(), main, i) {
+		t.Errorf("P10.2: %+v fits", i)
+	}
+}
+
+// Without registers nothing fits: 0 is none of them, either.
+func TestFitsWithoutRegisters(t *testing.T) {
+	p := great()
+	p.Funcs[main].Regs = nil
+	for op := -1; op <= 16; op++ {
+		for _, args := range [][]int{nil, {}, {0}} {
+			if types.Fits(p, main, api.Instr{Op: op, Args: args}) {
+				t.Errorf("P10.2: the Op %d with Args %v fits without registers", op, args)
 			}
 		}
 	}

@@ -105,7 +105,7 @@ func funcText(p *api.Program, n int) (sig string, kind string) {
 }
 
 func modelFits(p *api.Program, f int, i api.Instr) bool {
-	if p == nil || len(pick(p.Funcs, f)) == 0 {
+	if p == nil || len(pick(p.Funcs, f)) == 0 || !modelNamed(p, f, i) {
 		return false
 	}
 	d, a, b := regText(p, f, i.Dst), regText(p, f, i.A), regText(p, f, i.B)
@@ -363,6 +363,35 @@ func TestEachNumber(t *testing.T) {
 	}
 }
 
+// cleared gives i with nothing but what counts.
+func cleared(i api.Instr) api.Instr {
+	for letter, place := range places(&i) {
+		if !strings.ContainsRune(counted()[i.Op], letter) {
+			*place = 0
+		}
+	}
+	if !strings.Contains(counted()[i.Op], "*") {
+		i.Args = nil
+	}
+	return i
+}
+
+// holdFits holds Fits of i, as it is and cleared, against the model; it tells how many of them fit.
+func holdFits(t *testing.T, p *api.Program, f int, i api.Instr) int {
+	t.Helper()
+	fit := 0
+	for _, x := range []api.Instr{i, cleared(i)} {
+		got := types.Fits(p, f, x)
+		if got != modelFits(p, f, x) {
+			t.Fatalf("P10.2: %+v in %d of %+v fits: %t", x, f, p, got)
+		}
+		if got {
+			fit++
+		}
+	}
+	return fit
+}
+
 // All instructions with numbers about the registers of great, in each of its functions, and in none.
 func TestAllSmallInstructions(t *testing.T) {
 	p := great()
@@ -379,12 +408,8 @@ func TestAllSmallInstructions(t *testing.T) {
 						if (d+a+k)%4 == 0 {
 							f = (n+7)%7 - 1
 						}
-						got := types.Fits(p, f, i)
-						if got != modelFits(p, f, i) {
-							t.Fatalf("P10.2: %+v in %d fits: %t", i, f, got)
-						}
-						if got {
-							fit[op]++
+						if n := holdFits(t, p, f, i); n > 0 {
+							fit[op] += n
 						}
 					}
 				}
@@ -425,15 +450,7 @@ func (d *dice) rollInstr(p *api.Program, f int) api.Instr {
 		for range d.roll(4) {
 			i.Args = append(i.Args, d.roll(regs))
 		}
-		for letter, place := range places(&i) {
-			if !strings.ContainsRune(counted()[i.Op], letter) {
-				*place = 0
-			}
-		}
-		if !strings.Contains(counted()[i.Op], "*") {
-			i.Args = nil
-		}
-		if modelFits(p, f, i) {
+		if i = cleared(i); modelFits(p, f, i) {
 			return i
 		}
 	}
@@ -541,10 +558,7 @@ func TestRolledInstructions(t *testing.T) {
 			for range d.roll(4) {
 				i.Args = append(i.Args, d.roll(10)-1)
 			}
-			f := d.roll(6) - 1
-			if got := types.Fits(p, f, i); got != modelFits(p, f, i) {
-				t.Fatalf("P10.2: %+v in %d of %+v fits: %t", i, f, p, got)
-			}
+			holdFits(t, p, d.roll(6)-1, i)
 		}
 	}
 }

@@ -88,6 +88,7 @@ func funcNames(p *api.Program, f int) error {
 	return nil
 }
 
+// instrNamed is one for Names and Fits: what Names refuses at a point does not fit there.
 func instrNamed(p *api.Program, fn *api.Func, i api.Instr) bool {
 	return restIsEmpty(i) && regsNamed(fn, i) && numberNamed(p, fn, i)
 }

@@ -252,6 +252,9 @@ func holdNumber(t *testing.T, b, i int, letter rune, n int) {
 	if got := told(types.Names(p)); got != want {
 		t.Errorf("P10.1: %+v with %c %d: %q, want %q", *in, letter, n, got, want)
 	}
+	if want != "" && types.Fits(p, main, *in) {
+		t.Errorf("P10.2: %+v with %c %d fits, but Names refuses it", *in, letter, n)
+	}
 }
 
 func TestNamesOfArgs(t *testing.T) {
@@ -272,6 +275,9 @@ func TestNamesOfArgs(t *testing.T) {
 					}
 					if got := told(types.Names(p)); got != want {
 						t.Errorf("P10.1: %+v with Args %v: %q, want %q", was, args, got, want)
+					}
+					if want != "" && types.Fits(p, main, p.Funcs[main].Blocks[b].Code[i]) {
+						t.Errorf("P10.2: %+v with Args %v fits, but Names refuses it", was, args)
 					}
 				}
 			}
